@@ -3,7 +3,7 @@ import unittest
 from fadeleaf import deeds
 from fadeleaf.deeds import is_deed, wears
 from fadeleaf.palettes import Palette
-from tests.things import Agreeing, Stubborn, no_amounts, no_names, others
+from things import Agreeing, Stubborn, no_amounts, no_names, others
 
 PALETTE = Palette([("sun", 2), ("sky", 0)])
 BIG = 10 ** 59

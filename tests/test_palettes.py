@@ -3,7 +3,7 @@ import unittest
 from fadeleaf import palettes
 from fadeleaf.errors import NoInk, NoPalette
 from fadeleaf.palettes import Palette, is_amount, is_name
-from tests.things import Agreeing, no_amounts, no_names, others
+from things import Agreeing, no_amounts, no_names, others
 
 INKS = [("sun", 2), ("sky", 0), ("a", 1), ("abcdefgh", 10 ** 60)]
 
