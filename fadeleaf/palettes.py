@@ -1,6 +1,6 @@
 """Names, amounts, inks, and palettes of inks."""
 
-from fadeleaf.errors import NoInk, NoPalette
+from fadeleaf.errors import NoInk, NoPalette, NoWear, Unlike
 
 MOST_INKS = 8
 MOST_WEAR = 6
@@ -26,6 +26,13 @@ def is_name(thing):
 def is_amount(thing):
     """Tell whether a thing is a whole number from 1 on."""
     return is_whole(thing) and thing >= 1
+
+
+def checked_wear(thing):
+    """Tell a wear again; anything else is refused."""
+    if not is_whole(thing) or not 0 <= thing <= MOST_WEAR:
+        raise NoWear("a wear is a whole number from 0 to 6")
+    return thing
 
 
 def is_ink(thing):
@@ -81,3 +88,9 @@ class Palette:
 
     def __len__(self):
         return len(self._made)
+
+
+def refuse_unlike(one, other):
+    """Refuse two palettes that are not equal."""
+    if one != other:
+        raise Unlike("the palettes are not equal")

@@ -13,6 +13,7 @@ LIBRARY = {
     },
     "collections": {"defaultdict"},
 }
+BARRED = ("_wall", "_pe_", "_dcw_", "_enum_", "_cm_", "_twin_re_", "_lay_", "_law_", "_stub_", "_sre", "_WallAttr")
 NOT_ALLOWED = (
     ast.Global, ast.AsyncFunctionDef, ast.AsyncFor, ast.AsyncWith, ast.Await, ast.Import, ast.Div, ast.TryStar,
 )
@@ -57,6 +58,13 @@ class Form(unittest.TestCase):
                     else:
                         self.assertLessEqual(names, LIBRARY.get(node.module, set()), name)
                     self.assertEqual(node.level, 0, name)
+
+    def test_names(self):
+        for name, text in files():
+            for node in ast.walk(ast.parse(text)):
+                for told in (getattr(node, key, None) for key in ("id", "name", "attr", "arg")):
+                    if isinstance(told, str):
+                        self.assertFalse(told.startswith(BARRED), (name, told))
 
     def test_statements_and_values(self):
         for name, text in files():

@@ -1,4 +1,11 @@
-"""Things of many kinds, for what the document answers "of anything"."""
+"""Things of many kinds, for what the document answers "of anything", and inks and a number for many tests."""
+
+BIG = 10 ** 59
+INKS = [("sun", 2), ("sky", 0)]
+# Lists of inks of which the palettes are each unlike that of INKS: in a fade, a name, the order, and how many.
+UNLIKE = [
+    [("sun", 3), ("sky", 0)], [("sun", 2), ("sea", 0)], [("sky", 0), ("sun", 2)], [("sun", 2)], INKS + [("sea", 0)],
+]
 
 
 class Agreeing:
@@ -61,3 +68,21 @@ def others():
         None, b"sun", b"", [], (), {}, set(), frozenset(), ["sun"], ("sun",), {"sun": 1}, {"sun"}, [1], (1,), object(),
         len, int, str, Agreeing(), Stubborn(), nested(40), endless(), range(3), ValueError("sun"), NotImplemented, ...,
     ]
+
+
+def no_wears():
+    """Things that are no wears."""
+    return others() + [-1, 7, -(10 ** 60), 10 ** 60, True, False, "", "3", "sun", b"3", (3,), [3], {3: 3}]
+
+
+def no_deeds():
+    """Things that are no deeds of a palette of the inks sun and sky."""
+    told = [
+        ("lay", "sun", "red", 1), ("wait", 1), ("wash", "sun", 1), ("warm", "sky", 1), ("scrape",), ("rub", 1),
+    ]
+    wrong = [list(deed) for deed in told] + [deed + (1,) for deed in told] + [deed[:-1] for deed in told]
+    wrong += [("wait", amount) for amount in no_amounts()] + [("rub", amount) for amount in no_amounts()]
+    wrong += [("wash", "sun", amount) for amount in no_amounts()] + [("warm", ink, 1) for ink in no_names()]
+    wrong += [("lay", "sun", tag, 1) for tag in no_names()] + [("lay", "moon", "red", 1), ("lay", "sun", "red", 0)]
+    wrong += [("wash", "moon", 1), ("", 1), ("Scrape",), (("scrape",),), (True,), (1,), (Agreeing(),), (Stubborn(),)]
+    return wrong + others() + [True, False, 0, 1, "scrape", "", {"scrape": 1}, {"lay": "sun"}]
