@@ -86,3 +86,8 @@ def no_deeds():
     wrong += [("lay", "sun", tag, 1) for tag in no_names()] + [("lay", "moon", "red", 1), ("lay", "sun", "red", 0)]
     wrong += [("wash", "moon", 1), ("", 1), ("Scrape",), (("scrape",),), (True,), (1,), (Agreeing(),), (Stubborn(),)]
     return wrong + others() + [True, False, 0, 1, "scrape", "", {"scrape": 1}, {"lay": "sun"}]
+
+
+def no_numbers(most):
+    """Things that are no whole numbers from 0 to most."""
+    return others() + [-1, -(10 ** 60), most + 1, 10 ** 60, True, False, "", "0", "1", b"0", (0,), [0], {0: 0}]
