@@ -125,3 +125,44 @@ class Refusing(unittest.TestCase):
         if isinstance(thing, Leaf):
             return told(thing)
         return place_told(thing) if isinstance(thing, Kept) else list(thing)
+
+
+def spoilt(draws, text):
+    """A text spoilt by one stroke: a sign or a row put in, taken out, put elsewhere or changed; or cut off."""
+    at, lot = draws.below(len(text) + 1), draws.below(10)
+    rows = text.split("\n")
+    row = draws.below(len(rows))
+    if lot == 0:
+        return text[:at] + draws.pick(" \n0123456789abrunskyz~") + text[at:]
+    if lot == 1:
+        return text[:at] + text[at + 1:]
+    if lot == 2:
+        return text[:at] + draws.pick(" \n0123456789abz") + text[at + 1:]
+    if lot == 3:
+        return text[:at]
+    if lot == 4:
+        return "".join(one + "\n" for one in rows[:row])
+    if lot == 5:
+        return "\n".join(rows[:row] + rows[row + 1:])
+    if lot == 6:
+        return "\n".join(rows[:row] + [draws.pick(rows)] + rows[row:])
+    if lot == 7:
+        return "\n".join(rows[:row] + rows[row + 1:row + 2] + rows[row:row + 1] + rows[row + 2:])
+    return "\n".join(rows[:row] + [spoilt_row(draws, rows[row])] + rows[row + 1:])
+
+
+def spoilt_row(draws, row):
+    """A row of which one word is changed, left out or put in twice, or two words change their places."""
+    words = row.split(" ")
+    at, lot = draws.below(len(words)), draws.below(5)
+    word = words[at]
+    if lot == 0:
+        word = str(int(word) + 1 - 2 * draws.below(2)) if word.isdigit() else draws.pick(["a", "b", "sun", "sky", "red"])
+        return " ".join(words[:at] + [word] + words[at + 1:])
+    if lot == 1:
+        return " ".join(words[:at] + words[at + 1:])
+    if lot == 2:
+        return " ".join(words[:at] + [word] + words[at:])
+    if lot == 3:
+        return " ".join(words[:at] + words[at + 1:at + 2] + [word] + words[at + 2:])
+    return " ".join(words[:at] + words[at + 2:at + 4] + words[at:at + 2] + words[at + 4:])
