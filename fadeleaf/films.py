@@ -33,7 +33,7 @@ def leaf_film(leaf):
             changes.setdefault(tick, []).append((at, what))
     found = []
     seen = [None for many in manys]
-    for tick in sorted(changes):
+    for tick in sorted(list(changes)):
         for at, what in changes[tick]:
             seen[at] = what
         # A change at any place is one of the picture: it tells what is seen at each.

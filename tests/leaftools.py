@@ -157,7 +157,8 @@ def spoilt_row(draws, row):
     at, lot = draws.below(len(words)), draws.below(5)
     word = words[at]
     if lot == 0:
-        word = str(int(word) + 1 - 2 * draws.below(2)) if word.isdigit() else draws.pick(["a", "b", "sun", "sky", "red"])
+        other = draws.pick(["a", "b", "sun", "sky", "red"])
+        word = str(int(word) + 1 - 2 * draws.below(2)) if word.isdigit() else other
         return " ".join(words[:at] + [word] + words[at + 1:])
     if lot == 1:
         return " ".join(words[:at] + words[at + 1:])

@@ -199,7 +199,8 @@ class Deeds(Books):
             ("rub", 0, 1, 1), ("cut", 0, 1), ("insert", 0, "b"), ("press", 0, 1, "b", 0), ("graft", 0, 1, "b", 0),
         ]
         wrong = [list(deed) for deed in right] + [deed[:-1] for deed in right] + [deed + (1,) for deed in right]
-        wrong += [(word, *right[0][1:]) for word in ("", "Lay", "lays", "make", "wait", None, True, Agreeing(), ("lay",))]
+        words = ("", "Lay", "lays", "make", "wait", None, True, Agreeing(), ("lay",))
+        wrong += [(word, *right[0][1:]) for word in words]
         wrong += [("wait", 1), ("wait",), ("lay", "sun", "x", 1), ("scrape",), ("rub", 1), ("cut", "c"), ("press", "c")]
         wrong += [("insert", 0, "c", 0), ("insert", "c"), ("press", 0, 1, "c"), ("graft", 0, 1, "c", 0, 0), ("insert",)]
         wrong += others() + [True, False, 0, 1, "lay", "cut", {"lay": 1}, (Stubborn(), 0, 1), ((("cut",),), 0, 1)]
@@ -218,7 +219,8 @@ class Deeds(Books):
         for thing in no_numbers(6):
             for deed in (
                 ("lay", thing, 6, "moon", "", 0), ("wash", 0, thing, "moon", 0), ("warm", thing, thing, "moon", 0),
-                ("scrape", thing, 6), ("rub", 0, thing, 0), ("cut", thing, 6), ("cut", 0, thing), ("insert", thing, "b"),
+                ("scrape", thing, 6), ("rub", 0, thing, 0), ("cut", thing, 6), ("cut", 0, thing),
+                ("insert", thing, "b"),
                 ("press", thing, 6, "a", 0), ("graft", 0, thing, "a", 0), ("press", 0, 1, "a", thing),
                 ("graft", 0, 1, "a", thing),
             ):

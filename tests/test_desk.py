@@ -28,6 +28,11 @@ def made(*rows):
     return desk
 
 
+def deed_of(words):
+    """The deed of which these are the words."""
+    return tuple(int(word) if word.isdigit() else word for word in words.split(" "))
+
+
 class Desks(Refusing):
     def all_of(self, thing):
         """All that a desk tells but its count of answers, and the text of a book."""
@@ -73,7 +78,8 @@ class Rows(Desks):
             ("do a warm 1 2 sun 1", "ok"), ("do a rub 3 4 8", "ok"), ("do a scrape 5 6", "ok"),
             ("show a", "run 1 2\n  sun red 5\nrun 1 2\n  sun red 10\nrun 1 2\n  sun red 9\n  sky blue 5\n"
              "run 1 1\n  sun red 1\n  sky blue 5\nrun 1 2\n  sky blue 5\nrun 1 1\n"),
-            ("do a cut 3 6", "ok"), ("do a insert 1 b", "ok"), ("do a press 1 3 a 2", "ok"), ("do b graft 0 2 a 3", "ok"),
+            ("do a cut 3 6", "ok"), ("do a insert 1 b", "ok"), ("do a press 1 3 a 2", "ok"),
+            ("do b graft 0 2 a 3", "ok"),
             ("show a", "run 1 2\n  sun red 5\nrun 1 3\nrun 1 3\n  sun red 5\nrun 1 2\n  sun red 10\n"
              "run 1 2\n  sun red 9\n  sky blue 5\n"),
             ("show b", "run 1 2\n  sun red 10\nrun 1 2\n  sun red 9\n  sky blue 5\n"),
@@ -110,7 +116,7 @@ class Rows(Desks):
         """An answer that parts two leaves that are unlike by their order alone names this place, and deeds."""
         head, deeds = told.split(": ")
         self.assertEqual(head, str(at))
-        deeds = [tuple(int(word) if word.isdigit() else word for word in deed.split(" ")) for deed in deeds.split(", ")]
+        deeds = [deed_of(deed) for deed in deeds.split(", ")]
         self.assertTrue(all(is_deed(deed, PALETTE) for deed in deeds))
 
     def test_names_that_are_words_of_rows(self):
@@ -139,7 +145,8 @@ class Refused(Desks):
     def test_no_book(self):
         desk = Desk()
         for row in (
-            "make a 1 1", "make a {} 9".format(BIG), "drop a", "wait 1", "wait 0", "mark a", "back a", "seen a 0", "wear a 0",
+            "make a 1 1", "make a {} 9".format(BIG), "drop a", "wait 1", "wait 0", "mark a", "back a", "seen a 0",
+            "wear a 0",
             "runs a", "picture a 0", "film a 0", "part a a", "show a", "text", "do a lay 0 1 sun red 1", "do a cut 1 0",
             "do a wash 0 1 sun 0", "do a warm 0 1 sun 1", "do a scrape 0 1", "do a rub 0 1 1", "do a insert 0 a",
             "do a press 0 1 a 0", "do a graft 0 1 a 0",
@@ -152,20 +159,24 @@ class Refused(Desks):
     def test_as_the_stages_refuse(self):
         desk = made(BOOK, "make a 6 0", "make b 3 1", "do a lay 2 6 sun red 4", "mark m", "make most {} 1".format(MOST))
         for row, error, who in (
-            ("drop c", "NoName", "c"), ("back a", "NoName", "a"), ("seen c 0", "NoName", "c"), ("wear m 0", "NoName", "m"),
+            ("drop c", "NoName", "c"), ("back a", "NoName", "a"), ("seen c 0", "NoName", "c"),
+            ("wear m 0", "NoName", "m"),
             ("runs c", "NoName", "c"), ("picture c 0", "NoName", "c"), ("film c 0", "NoName", "c"),
-            ("part c d", "NoName", "c"), ("part a d", "NoName", "d"), ("show c", "NoName", "c"), ("wait 0", "NoAmount", 0),
+            ("part c d", "NoName", "c"), ("part a d", "NoName", "d"), ("show c", "NoName", "c"),
+            ("wait 0", "NoAmount", 0),
             ("do c lay 9 0 moon red 0", "NoName", "c"), ("do a insert 9 c", "NoName", "c"),
             ("do a press 9 0 c 9", "NoName", "c"), ("do a graft 9 0 c 9", "NoName", "c"),
             ("do a lay 0 0 moon red 0", "NoInk", "moon"), ("do a lay 0 0 sun red 0", "NoAmount", 0),
-            ("do a wash 0 0 sun 0", "NoAmount", 0), ("do a warm 0 0 moon 0", "NoInk", "moon"), ("do a rub 0 6 0", "NoAmount", 0),
+            ("do a wash 0 0 sun 0", "NoAmount", 0), ("do a warm 0 0 moon 0", "NoInk", "moon"),
+            ("do a rub 0 6 0", "NoAmount", 0),
         ):
             before = self.all_of(desk)
             caught = caught_of(getattr(errors, error), lambda: desk.say(row))
             self.assertEqual((caught.who, type(caught.who)), (who, type(who)))
             self.assertEqual(self.all_of(desk), before)
         for row in (
-            "make a {} 9".format(MOST + 1), "seen a 6", "wear a 6", "film a 6", "do a lay 0 7 moon red 0", "do a cut 1 0",
+            "make a {} 9".format(MOST + 1), "seen a 6", "wear a 6", "film a 6", "do a lay 0 7 moon red 0",
+            "do a cut 1 0",
             "do a insert 7 a", "do b press 0 3 a 4", "do b graft 0 1 b 3", "do a insert 0 most", "do a scrape 1 0",
             "do most insert 0 most", "seen most {}".format(MOST),
         ):
@@ -349,7 +360,7 @@ class PlaceByPlace(Desks):
     def check_parting(self, model, row, expected, told):
         head, _, tail = told.partition(" ")
         self.assertEqual(head, expected)
-        deeds = [tuple(int(word) if word.isdigit() else word for word in deed.split()) for deed in tail.split(", ") if deed]
+        deeds = [deed_of(deed) for deed in tail.split(", ") if deed]
         self.assertTrue(all(is_deed(deed, Palette(model.book.inks)) for deed in deeds))
         one, other = [model.book.leaf(name) for name in row.split()[1:]]
         self.assertIs(one.does_part(other, int(head[:-1]), deeds), True)
@@ -365,22 +376,20 @@ class PlaceByPlace(Desks):
 
     def test_drawn_row_by_row(self):
         answered = 0
-        for seed in range(40):
+        for seed in range(60):
             draws, model, desk = Draws(seed), DeskModel(), Desk()
             inks = draws.inks()
             rows = ["text", "book " + " ".join("{} {}".format(*ink) for ink in inks)]
             rows += ["make {} 6 3".format(name) for name in NAMES]
-            for at in range(90):
+            for _ in range(90):
                 row = rows.pop(0) if rows else drawn_row(draws, NAMES, inks, self.sizes(model))
-                if at > 70 and model.book is not None:
-                    inks = model.book.inks
                 if self.thick(model):
                     row = "back a" if "a" in model.book.marks else "make {} 6 3".format(draws.pick(NAMES))
                 self.check(model, desk, row)
             answered += model.answered
             if model.book is not None:
                 self.assertEqual(self.check(model, desk, "text"), book_text(desk.book()))
-        self.assertGreater(answered, 1800)
+        self.assertGreater(answered, 2700)
 
     def test_drawn_several_at_once(self):
         for seed in range(40):

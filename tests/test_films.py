@@ -253,7 +253,8 @@ class LeafFilms(Refusing):
                 self.assertEqual(film(leaf.place(at)), film_of(model.places[at], 40))
 
     def test_what_waiting_on_a_copy_shows(self):
-        leaf = made(MOST, ("lay", 5, 9, "sun", "a", BIG), ("lay", 8, 20, "sky", "b", BIG // 2), ("lay", 0, 6, "sun", "c", 9))
+        leaf = made(MOST, ("lay", 5, 9, "sun", "a", BIG), ("lay", 8, 20, "sky", "b", BIG // 2),
+                    ("lay", 0, 6, "sun", "c", 9))
         found = leaf_film(leaf)
         self.assertGreater(len(found), 2)
         for tick, picture in found[1:]:

@@ -37,8 +37,8 @@ class Written(Refusing):
     def test_layers(self):
         self.check(made(5, ("lay", 0, 5, "sun", "red", 4), ("lay", 0, 5, "sun", "sky", 7)),
                    "run 5 3", "  sun red 4 sky 7")
-        self.check(made(5, ("lay", 0, 5, "sky", "red", BIG), ("lay", 0, 2, "sun", "a", 1), ("lay", 4, 5, "sun", "b", 12)),
-                   "run 2 3", "  sun a 1", "  sky red " + BIG_NUMBER, "run 2 3", "  sky red " + BIG_NUMBER,
+        leaf = made(5, ("lay", 0, 5, "sky", "red", BIG), ("lay", 0, 2, "sun", "a", 1), ("lay", 4, 5, "sun", "b", 12))
+        self.check(leaf, "run 2 3", "  sun a 1", "  sky red " + BIG_NUMBER, "run 2 3", "  sky red " + BIG_NUMBER,
                    "run 1 3", "  sun b 12", "  sky red " + BIG_NUMBER)
 
     def test_in_the_order_of_inks_not_of_letters(self):
@@ -51,7 +51,8 @@ class Written(Refusing):
         self.check(made(2, *layers, wear=3), "run 2 3", "  sun a 3 a 5 b 9 a 4")
 
     def test_tags_like_inks_and_words(self):
-        self.check(made(1, ("lay", 0, 1, "sun", "run", 1), ("lay", 0, 1, "sun", "sun", 2)), "run 1 3", "  sun run 1 sun 2")
+        leaf = made(1, ("lay", 0, 1, "sun", "run", 1), ("lay", 0, 1, "sun", "sun", 2))
+        self.check(leaf, "run 1 3", "  sun run 1 sun 2")
 
     def test_numbers_of_three_hundred_figures(self):
         huge = 10 ** 299 + 7
@@ -109,8 +110,8 @@ class Read(unittest.TestCase):
             "run", "run ", "run 5", "run 5 ", "run 5 3 ", "run 5 3 1", " run 5 3", "  run 5 3", "run  5 3", "run 5  3",
             "Run 5 3", "runs 5 3", "run05 3", "run 05 3", "run 5 03", "run 00 3", "run 0 3", "run -5 3", "run +5 3",
             "run 5 7", "run 5 10", "run 5 -1", "run a 3", "run 5 a", "run 5_0 3", "run 5, 3", "run 0x5 3", "run 5.0 3",
-            "run 1000000000000000001 3", "run 2000000000000000000 3", "leaf a", "ink sun 2", "ticks 0", "5 3", "sun red 4",
-            "run 3 5 3", "  sun red 4", "  ", "   ", "run 5 3 sun red 4",
+            "run 1000000000000000001 3", "run 2000000000000000000 3", "leaf a", "ink sun 2", "ticks 0", "5 3",
+            "sun red 4", "run 3 5 3", "  sun red 4", "  ", "   ", "run 5 3 sun red 4",
         ):
             self.refused(PALETTE, row + "\n", 1)
             self.refused(PALETTE, row + "\nrun 5 3\n", 1)
@@ -119,8 +120,9 @@ class Read(unittest.TestCase):
 
     def test_rows_of_layers(self):
         for row in (
-            "  sun", "  sun ", "  sun red", "  sun red ", "  sun red 4 ", "  sun red 4 sky", " sun red 4", "   sun red 4",
-            "sun red 4", "  sun  red 4", "  sun red  4", "  moon red 4", "  Sun red 4", "  sun Red 4", "  sun red 04",
+            "  sun", "  sun ", "  sun red", "  sun red ", "  sun red 4 ", "  sun red 4 sky", " sun red 4",
+            "   sun red 4", "sun red 4", "  sun  red 4", "  sun red  4", "  moon red 4", "  Sun red 4", "  sun Red 4",
+            "  sun red 04",
             "  sun red 0", "  sun red 00", "  sun red -4", "  sun red +4", "  sun red a", "  sun 4 red", "  sun 4",
             "  sun abcdefghi 4", "  sun red 4 4", "  sun red red 4", "  sun red 4 sky 0", "  sun red 4 sky 07",
             "  sun red 1_0", "  sun re-d 4", "  su red 4", "   ", "  ", "    sun red 4", "  sun red 4.0", "  sunred 4",

@@ -165,7 +165,8 @@ class Deeds(Refusing):
         self.assertEqual([many for many, _, _ in leaf.runs()],
                          [1, MOST // 3 - 1, MOST // 2 - MOST // 3, MOST // 2 - 7, 6, 1])
         self.assertEqual([seen for _, seen in leaf.picture()],
-                         [None, ("sun", "a", BIG), ("sun", "a", 1), ("sky", "b", 2), ("sun", "a", BIG), ("sky", "b", 2)])
+                         [None, ("sun", "a", BIG), ("sun", "a", 1), ("sky", "b", 2), ("sun", "a", BIG),
+                          ("sky", "b", 2)])
         leaf.wait(10 ** 300)
         self.assertEqual(leaf.picture(), [(MOST // 2, None), (MOST - MOST // 2, ("sky", "b", 2))])
 
@@ -453,6 +454,10 @@ class Parting(Refusing):
         self.assertNotEqual(expected[1], [])
 
     def test_unlike(self):
+        empty = Leaf(PALETTE, 0)
+        for inks in UNLIKE:
+            self.refused("Unlike", lambda: leaf_parting(empty, Leaf(Palette(inks), 0)), empty)
+            self.refused("Unlike", lambda: leaf_parting(Leaf(Palette(inks), 0), empty), empty)
         leaf = made(10, RED)
         unlike = [Leaf(Palette(inks), 10) for inks in UNLIKE]
         for other in unlike + [Leaf(PALETTE, many) for many in (0, 9, 11, MOST)]:

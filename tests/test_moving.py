@@ -78,7 +78,8 @@ class Grafted(Refusing):
 class Pressed(Refusing):
     def test_place_by_place(self):
         leaf = made(5, ("lay", 0, 5, "sun", "a", 4), wear=4)
-        other = made(6, ("lay", 2, 4, "sun", "b", 7), ("lay", 3, 4, "sky", "c", 9), ("lay", 4, 5, "sky", "c", 1), wear=0)
+        layers = [("lay", 2, 4, "sun", "b", 7), ("lay", 3, 4, "sky", "c", 9), ("lay", 4, 5, "sky", "c", 1)]
+        other = made(6, *layers, wear=0)
         before = told(other)
         self.assertIsNone(press_onto(leaf, 1, 4, other, at=2))
         self.assertEqual(leaf.runs(), [
